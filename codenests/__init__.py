@@ -1,0 +1,1 @@
+"""Codenests: codes modulo a prime, one within the other."""

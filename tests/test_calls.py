@@ -1,0 +1,101 @@
+"""What 0.2 promises of every call: nothing passed is changed, and lists are new."""
+
+import copy
+import unittest
+
+from codenests.errors import NameMissing, NestError
+from codenests.grounds import Ground
+from tests.calls import calls
+
+PREDICATES = {"is_word", "is_number", "is_prime", "judge_relation", "judge_relation list", "is_in", "is_within"}
+
+RETURN_LISTS = {"all_rows", "rows_of"}
+
+OBJECTS = (Ground,)
+
+
+def outcome(function, arguments):
+    """What a call returns, or the class and the attributes of what it raises."""
+    try:
+        return "returned", function(*arguments)
+    except (NestError, NameMissing) as error:
+        return type(error), vars(error)
+
+
+def lists_in(value):
+    """All lists and dicts in a value, those inside others, too."""
+    if isinstance(value, (list, dict)):
+        inner = list(value.values()) if isinstance(value, dict) else value
+        return [value] + [one for part in inner for one in lists_in(part)]
+    if isinstance(value, tuple):
+        return [one for part in value for one in lists_in(part)]
+    return []
+
+
+def is_plain(value):
+    """Whether a value is made of plain values, of no class of its own."""
+    if type(value) in (list, tuple):
+        return all(is_plain(part) for part in value)
+    return value is None or type(value) in (int, str) or isinstance(value, OBJECTS)
+
+
+def swapped(value):
+    """A list as a tuple, with its inner lists; all else as it is."""
+    if isinstance(value, list):
+        return tuple(swapped(part) for part in value)
+    return value
+
+
+class EveryCall(unittest.TestCase):
+    def test_nothing_that_is_passed_is_changed(self):
+        for name, function, arguments in calls():
+            before = copy.deepcopy(arguments)
+            outcome(function, arguments)
+            self.assertEqual(arguments, before, name)
+
+    def test_a_repeated_call_answers_alike(self):
+        for (name, function, arguments), (_, again, others) in zip(calls(), calls()):
+            first = outcome(function, arguments)
+            self.assertEqual(outcome(function, arguments), first, name)
+            self.assertEqual(outcome(again, others), first, name)
+
+    def test_lists_that_are_returned_are_new(self):
+        for name, function, arguments in calls():
+            kind, value = outcome(function, arguments)
+            _, again = outcome(function, arguments)
+            if kind == "returned":
+                found = lists_in(value) + lists_in(again)
+                passed = [id(one) for one in lists_in(arguments)]
+                self.assertEqual(len({id(one) for one in found}), len(found), name)
+                self.assertFalse(any(id(one) in passed for one in found), name)
+
+    def test_a_list_that_is_returned_belongs_to_the_caller(self):
+        for name, function, arguments in calls():
+            kind, value = outcome(function, arguments)
+            if kind == "returned" and lists_in(value):
+                wanted = copy.deepcopy(value)
+                for one in lists_in(value):
+                    one.clear()
+                self.assertEqual(outcome(function, arguments), (kind, wanted), name)
+
+    def test_tuples_count_as_lists(self):
+        judged = {"is_word", "is_number", "is_prime", "Ground bad p", "Ground bad n"}
+        for name, function, arguments in calls():
+            if name not in judged and not name.endswith((" list", " entry", " row")):
+                self.assertEqual(outcome(function, swapped(arguments)), outcome(function, arguments), name)
+
+    def test_what_is_returned_is_plain(self):
+        for name, function, arguments in calls():
+            kind, value = outcome(function, arguments)
+            if kind == "returned":
+                if name in PREDICATES:
+                    self.assertIs(type(value), bool, name)
+                else:
+                    self.assertTrue(is_plain(value), name)
+
+    def test_lists_are_returned_where_the_document_says_so(self):
+        for name, function, arguments in calls():
+            kind, value = outcome(function, arguments)
+            if kind == "returned":
+                self.assertEqual(len(lists_in(value)), 1 if name in RETURN_LISTS else 0, name)
+                self.assertEqual(isinstance(value, list), name in RETURN_LISTS, name)

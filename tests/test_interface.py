@@ -1,0 +1,63 @@
+"""The names of the interface: where they are defined, and with how many arguments."""
+
+import importlib
+import inspect
+import unittest
+
+FUNCTIONS = {
+    "words": {"is_word": 1, "is_number": 1},
+    "grounds": {"is_prime": 1},
+    "rows": {"check_row": 2, "added": 3, "subtracted": 3, "scaled": 3, "dot": 3, "combined": 3, "pivot": 1,
+             "row_at": 2, "row_number": 2, "all_rows": 1},
+    "squares": {"reduced": 2, "rank": 2, "relation": 2, "judge_relation": 3, "solve": 3, "product": 3,
+                "inverse": 2, "determinant": 2},
+    "codes": {"check_code": 2, "code_of": 2, "pivots": 1, "rest": 3, "is_in": 3, "is_within": 3, "rows_of": 2,
+              "row_outside": 3},
+}
+
+CLASSES = {
+    "grounds": {"Ground": {"__init__": 2, "p": 0, "n": 0, "zero": 0, "units": 0, "inverse_of": 1, "__eq__": 1}},
+}
+
+ERRORS = {"NestError": None, "UnlikeGrounds": 0, "TooGreat": 0, "NothingDone": 0, "BadGround": 1, "BadRow": 1,
+          "BadCode": 1, "BadNest": 1, "BadPart": 1, "BadMap": 1, "BadOrder": 1, "BadDeed": 1, "BadLevels": 1,
+          "BadText": 1, "BadAct": 1, "NameMissing": None, "NoLevel": 1, "UnknownName": 1}
+
+
+def module_of(name):
+    return importlib.import_module("codenests." + name)
+
+
+def takes(function):
+    """How many arguments a function takes by position, if it takes no others."""
+    kinds = [one.kind for one in inspect.signature(function).parameters.values()]
+    assert all(kind == inspect.Parameter.POSITIONAL_OR_KEYWORD for kind in kinds)
+    return len(kinds)
+
+
+class Interface(unittest.TestCase):
+    def test_functions(self):
+        for file, functions in FUNCTIONS.items():
+            for name, many in functions.items():
+                function = getattr(module_of(file), name)
+                self.assertTrue(inspect.isfunction(function), name)
+                self.assertEqual(function.__module__, "codenests." + file, name)
+                self.assertEqual(takes(function), many, name)
+
+    def test_classes(self):
+        for file, classes in CLASSES.items():
+            for name, methods in classes.items():
+                found = getattr(module_of(file), name)
+                self.assertEqual(found.__module__, "codenests." + file, name)
+                for method, many in methods.items():
+                    self.assertIn(method, vars(found), name)
+                    self.assertEqual(takes(vars(found)[method]), many + 1, method)
+
+    def test_errors(self):
+        for name, many in ERRORS.items():
+            found = getattr(module_of("errors"), name)
+            self.assertEqual(found.__module__, "codenests.errors")
+            if many == 0:
+                found()
+            elif many == 1:
+                self.assertEqual(takes(vars(found)["__init__"]), 2, name)
