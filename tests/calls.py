@@ -3,13 +3,17 @@
 A call is a name, the function and its arguments.
 """
 
-from codenests import codes, grounds, rows, squares, words
+from codenests import codecounts, codes, deeds, grounds, meets, nests, parts, rows, scripts, squares, words
 from codenests.grounds import Ground
+from codenests.nests import Nest
+from codenests.parts import Part
 
 LIST = [(1, 2, 0), (2, 1, 1), (0, 0, 0), (1, 2, 0), (0, 1, 1)]
 LOW = ((1, 0, 2),)
 HIGH = ((1, 0, 2), (0, 1, 1))
 SQUARE = ((1, 2, 0), (0, 1, 1), (2, 0, 2))
+OTHER = ((1, 0, 0), (0, 0, 1))
+FIRST = (1, ((0, 1, 1),))
 
 
 def anything():
@@ -89,5 +93,83 @@ def calls_of_codes():
     ]
 
 
+def calls_of_meets():
+    ground = Ground(3, 3)
+    return [
+        ("common", meets.common, [ground, HIGH, OTHER]),
+        ("joined", meets.joined, [ground, LOW, OTHER]),
+        ("complement", meets.complement, [ground, HIGH]),
+        ("between_codes", meets.between_codes, [ground, LOW, ground.units()]),
+        ("all_codes_between", meets.all_codes_between, [ground, LOW, ground.units()]),
+    ]
+
+
+def calls_of_codecounts():
+    ground = Ground(3, 3)
+    return [
+        ("count_codes", codecounts.count_codes, [ground, 2]),
+        ("count_between", codecounts.count_between, [ground, LOW, ground.units(), 2]),
+        ("code_at", codecounts.code_at, [ground, 2, 7]),
+        ("code_at beyond", codecounts.code_at, [ground, 2, 13]),
+        ("code_number", codecounts.code_number, [ground, HIGH]),
+        ("all_codes", codecounts.all_codes, [ground, 2]),
+        ("next_code", codecounts.next_code, [ground, HIGH]),
+        ("next_code none", codecounts.next_code, [ground, ((0, 1, 0), (0, 0, 1))]),
+    ]
+
+
+def calls_of_nests_and_parts():
+    ground = Ground(3, 3)
+    nest = Nest(ground, [LOW, HIGH])
+    part = Part(ground, [HIGH])
+    return [
+        ("Nest", Nest, [ground, [LOW, HIGH]]),
+        ("Nest bad code", Nest, [ground, [LOW, [1, (2,)]]]),
+        ("Nest bad rank", Nest, [ground, [HIGH, LOW]]),
+        ("nest ground", nest.ground, []),
+        ("nest codes", nest.codes, []),
+        ("nest code", nest.code, [2]),
+        ("nest no code", nest.code, [[2]]),
+        ("standard", nests.standard, [ground]),
+        ("Part", Part, [ground, [LOW, HIGH]]),
+        ("Part bad code", Part, [ground, [LOW, [1, (2,)]]]),
+        ("Part bad rank", Part, [ground, [HIGH, LOW]]),
+        ("part ground", part.ground, []),
+        ("part codes", part.codes, []),
+        ("part ranks", part.ranks, []),
+        ("part blocks", part.blocks, []),
+        ("part_of", parts.part_of, [nest, [1, 2]]),
+        ("is_over", parts.is_over, [nest, part]),
+        ("is_over unlike", parts.is_over, [nest, Part(Ground(2, 3), [])]),
+    ]
+
+
+def calls_of_deeds_and_scripts():
+    nest = Nest(Ground(3, 3), [LOW, HIGH])
+    script = [FIRST, (2, ((1, 0, 0), (0, 1, 1))), (1, ((1, 0, 0),))]
+    return [
+        ("is_deed", deeds.is_deed, [nest, FIRST]),
+        ("is_deed list", deeds.is_deed, [nest, [1, [[0, 1, 1]]]]),
+        ("done", deeds.done, [nest, FIRST]),
+        ("done list", deeds.done, [nest, list(FIRST)]),
+        ("taken_back", deeds.taken_back, [nest, FIRST]),
+        ("taken_back list", deeds.taken_back, [nest, list(FIRST)]),
+        ("deeds_at", deeds.deeds_at, [nest, 1]),
+        ("deeds_at no level", deeds.deeds_at, [nest, 3]),
+        ("all_deeds", deeds.all_deeds, [nest]),
+        ("walked", scripts.walked, [nest, list(script)]),
+        ("walked bad", scripts.walked, [nest, script + [FIRST, FIRST]]),
+        ("steps", scripts.steps, [nest, list(script)]),
+        ("steps bad", scripts.steps, [nest, script + [FIRST, FIRST]]),
+        ("turned_back", scripts.turned_back, [nest, list(script)]),
+        ("turned_back bad", scripts.turned_back, [nest, script + [FIRST, FIRST]]),
+        ("first_bad", scripts.first_bad, [nest, list(script)]),
+        ("first_bad member", scripts.first_bad, [nest, script + [[FIRST]]]),
+        ("levels_of", scripts.levels_of, [list(script)]),
+    ]
+
+
 def calls():
-    return calls_of_words_and_grounds() + calls_of_rows() + calls_of_squares() + calls_of_codes()
+    made = [calls_of_words_and_grounds, calls_of_rows, calls_of_squares, calls_of_codes, calls_of_meets,
+            calls_of_codecounts, calls_of_nests_and_parts, calls_of_deeds_and_scripts]
+    return [call for part in made for call in part()]

@@ -5,13 +5,17 @@ import unittest
 
 from codenests.errors import NameMissing, NestError
 from codenests.grounds import Ground
+from codenests.nests import Nest
+from codenests.parts import Part
 from tests.calls import calls
 
-PREDICATES = {"is_word", "is_number", "is_prime", "judge_relation", "judge_relation list", "is_in", "is_within"}
+PREDICATES = {"is_word", "is_number", "is_prime", "judge_relation", "judge_relation list", "is_in", "is_within",
+              "is_over", "is_deed", "is_deed list"}
 
-RETURN_LISTS = {"all_rows", "rows_of"}
+RETURN_LISTS = {"all_rows", "rows_of", "between_codes", "all_codes_between", "all_codes", "nest codes", "part codes",
+                "deeds_at", "all_deeds", "steps", "turned_back", "levels_of"}
 
-OBJECTS = (Ground,)
+OBJECTS = (Ground, Nest, Part)
 
 
 def outcome(function, arguments):
@@ -81,7 +85,7 @@ class EveryCall(unittest.TestCase):
     def test_tuples_count_as_lists(self):
         judged = {"is_word", "is_number", "is_prime", "Ground bad p", "Ground bad n"}
         for name, function, arguments in calls():
-            if name not in judged and not name.endswith((" list", " entry", " row")):
+            if name not in judged and not name.endswith((" list", " entry", " row", " bad code", " no code", " member")):
                 self.assertEqual(outcome(function, swapped(arguments)), outcome(function, arguments), name)
 
     def test_what_is_returned_is_plain(self):

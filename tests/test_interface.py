@@ -13,10 +13,19 @@ FUNCTIONS = {
                 "inverse": 2, "determinant": 2},
     "codes": {"check_code": 2, "code_of": 2, "pivots": 1, "rest": 3, "is_in": 3, "is_within": 3, "rows_of": 2,
               "row_outside": 3},
+    "meets": {"common": 3, "joined": 3, "complement": 2, "between_codes": 3, "all_codes_between": 3},
+    "codecounts": {"count_codes": 2, "count_between": 4, "code_at": 3, "code_number": 2, "all_codes": 2,
+                   "next_code": 2},
+    "nests": {"standard": 1},
+    "parts": {"part_of": 2, "is_over": 2},
+    "deeds": {"is_deed": 2, "done": 2, "taken_back": 2, "deeds_at": 2, "all_deeds": 1},
+    "scripts": {"walked": 2, "steps": 2, "turned_back": 2, "first_bad": 2, "levels_of": 1},
 }
 
 CLASSES = {
     "grounds": {"Ground": {"__init__": 2, "p": 0, "n": 0, "zero": 0, "units": 0, "inverse_of": 1, "__eq__": 1}},
+    "nests": {"Nest": {"__init__": 2, "ground": 0, "codes": 0, "code": 1, "__eq__": 1}},
+    "parts": {"Part": {"__init__": 2, "ground": 0, "codes": 0, "ranks": 0, "blocks": 0, "__eq__": 1}},
 }
 
 ERRORS = {"NestError": None, "UnlikeGrounds": 0, "TooGreat": 0, "NothingDone": 0, "BadGround": 1, "BadRow": 1,
