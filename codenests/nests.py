@@ -1,7 +1,7 @@
 """Nests: chains of codes, each of them of one rank more than the one before."""
 
 from codenests.chains import chain_fault
-from codenests.errors import BadNest, NoLevel
+from codenests.errors import BadNest, NoLevel, UnlikeGrounds
 from codenests.words import is_number
 
 
@@ -54,3 +54,12 @@ def standard(ground):
     """The nest whose code of rank i has zeros from column i on."""
     units = ground.units()
     return Nest(ground, [units[:i] for i in range(1, ground.n())])
+
+
+def shared_ground(nests):
+    """The ground of all nests of a list, which is not empty."""
+    ground = nests[0].ground()
+    for nest in nests:
+        if nest.ground() != ground:
+            raise UnlikeGrounds()
+    return ground

@@ -111,3 +111,56 @@ def all_nests(p, n):
         chains = [chain + (base,) for chain in chains for base, rows in spans.items()
                   if len(base) == rank and (not chain or spans[chain[-1]] <= rows)]
     return sorted(chains)
+
+
+def chain_of(p, n, codes):
+    """The sets of rows C(0) to C(n) of a nest that is told by its codes."""
+    units = [tuple(int(k == column) for column in range(n)) for k in range(n)]
+    return [span(p, n, rows) for rows in [[]] + list(codes) + ([units] if n > 0 else [])]
+
+
+def table(p, n, codes, others):
+    """The table of two nests by S4.2."""
+    return tuple(tuple(rank_of_span(p, one & other) for other in chain_of(p, n, others))
+                 for one in chain_of(p, n, codes))
+
+
+def order(p, n, codes, others):
+    """The order of two nests by S4.3."""
+    one, other = chain_of(p, n, codes), chain_of(p, n, others)
+    return tuple(min(j for j in range(n) if (one[i + 1] & other[j + 1]) - one[i]) for i in range(n))
+
+
+def is_frame(p, n, codes, others, rows):
+    """Whether n rows are a frame of two nests by S4.4."""
+    w = order(p, n, codes, others)
+    one, other = chain_of(p, n, codes), chain_of(p, n, others)
+    return (all(span(p, n, rows[:i]) == one[i] for i in range(n + 1))
+            and all(span(p, n, [rows[a] for a in range(n) if w[a] < j]) == other[j] for j in range(n + 1)))
+
+
+def count_inversions(w):
+    return sum(w[a] > w[b] for b in range(len(w)) for a in range(b))
+
+
+def random_nest(chance, p, n):
+    """The codes of some nest, as reduced bases."""
+    rows = []
+    while len(rows) < n:
+        row = tuple(chance.randrange(p) for _ in range(n))
+        if len(echelon(p, rows + [row])) > len(rows):
+            rows.append(row)
+    return tuple(echelon(p, rows[:i]) for i in range(1, n))
+
+
+def echelon(p, rows):
+    """The reduced base of some rows, put together row by row."""
+    base = []
+    for row in rows:
+        for other in base:
+            row = plus(p, row, times(p, -row[first_entry(other)], other))
+        if any(row):
+            factor = next(k for k in range(p) if k * row[first_entry(row)] % p == 1)
+            row = times(p, factor, row)
+            base = [plus(p, other, times(p, -other[first_entry(row)], row)) for other in base] + [row]
+    return tuple(sorted(base, key=first_entry))

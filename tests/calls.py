@@ -3,7 +3,8 @@
 A call is a name, the function and its arguments.
 """
 
-from codenests import codecounts, codes, deeds, grounds, meets, nests, parts, rows, scripts, squares, words
+from codenests import codecounts, codes, deeds, differences, frames, grounds, lexemes, meets, nests, orders, parts
+from codenests import printer, reader, rows, scripts, squares, words
 from codenests.grounds import Ground
 from codenests.nests import Nest
 from codenests.parts import Part
@@ -169,7 +170,87 @@ def calls_of_deeds_and_scripts():
     ]
 
 
+def calls_of_texts():
+    ground = Ground(3, 3)
+    row, code = "(1, 2, 0)", "[(1, 0, 2), (0, 1, 1)]"
+    nest = "nest {[(1, 0, 2)]; " + code + ";}"
+    return [
+        ("lexemes", lexemes.lexemes, ["nest { 007 }"]),
+        ("lexemes wrong", lexemes.lexemes, ["nest { 007 !"]),
+        ("ground_text", printer.ground_text, [ground]),
+        ("row_text", printer.row_text, [(1, 2, 0)]),
+        ("code_text", printer.code_text, [HIGH]),
+        ("nest_text", printer.nest_text, [Nest(ground, [LOW, HIGH])]),
+        ("part_text", printer.part_text, [Part(ground, [HIGH])]),
+        ("script_text", printer.script_text, [[FIRST, (7, ((), (9,)))]]),
+        ("read_ground", reader.read_ground, ["ground 3 2;"]),
+        ("read_ground bad", reader.read_ground, ["ground 4 2;"]),
+        ("read_ground wrong", reader.read_ground, ["ground 4 2"]),
+        ("read_row", reader.read_row, [ground, row]),
+        ("read_row bad", reader.read_row, [ground, "(1, 3, 0)"]),
+        ("read_row wrong", reader.read_row, [ground, "(1, 3, 0,)"]),
+        ("read_code", reader.read_code, [ground, code]),
+        ("read_code bad", reader.read_code, [ground, "[(1, 2, 0), (1, 2, 0)]"]),
+        ("read_code wrong", reader.read_code, [ground, row]),
+        ("read_nest", reader.read_nest, [ground, nest]),
+        ("read_nest bad", reader.read_nest, [ground, "nest {[(1, 0, 2)]; [(1, 0, 2), (0, 3, 1)];}"]),
+        ("read_nest wrong", reader.read_nest, [ground, nest + nest]),
+        ("read_part", reader.read_part, [ground, "part {" + code + ";}"]),
+        ("read_part bad", reader.read_part, [ground, "part {" + code + "; " + code + ";}"]),
+        ("read_part wrong", reader.read_part, [ground, nest]),
+        ("read_script", reader.read_script, ["script {1 " + code + "; 0 [()];}"]),
+        ("read_script wrong", reader.read_script, ["script {1 " + code + "}"]),
+    ]
+
+
+def two_nests():
+    ground = Ground(3, 3)
+    return [Nest(ground, [LOW, HIGH]), Nest(ground, [((0, 1, 2),), ((1, 0, 0), (0, 1, 2))])]
+
+
+def calls_of_orders():
+    return [
+        ("is_order", orders.is_order, [3, (1, 2, 0)]),
+        ("is_order list", orders.is_order, [3, [1, [2], 0]]),
+        ("inversions", orders.inversions, [(1, 2, 0)]),
+        ("orders turned_back", orders.turned_back, [(1, 2, 0)]),
+        ("sorting_steps", orders.sorting_steps, [(1, 2, 0)]),
+        ("stepped", orders.stepped, [(1, 2, 0), 2]),
+        ("stepped no level", orders.stepped, [(1, 2, 0), [1]]),
+        ("table_from", differences.table_from, [(1, 2, 0)]),
+        ("order_from", differences.order_from, [((0, 0, 0), (0, 0, 1), (0, 1, 2))]),
+        ("order_from list", differences.order_from, [[(0, 0), [0, 1]]]),
+    ]
+
+
+def calls_of_differences_and_frames():
+    ground = Ground(3, 3)
+    one, other = two_nests()
+    rows_of_frame = frames.frame_of(one, other)
+    paper = (differences.order_of(one, other), rows_of_frame)
+    unlike = [one, nests.standard(Ground(2, 3))]
+    return [
+        ("table_of", differences.table_of, [one, other]),
+        ("table_of unlike", differences.table_of, list(unlike)),
+        ("order_of", differences.order_of, [one, other]),
+        ("order_of unlike", differences.order_of, list(unlike)),
+        ("frame_of", frames.frame_of, [one, other]),
+        ("frame_of unlike", frames.frame_of, list(unlike)),
+        ("is_frame", frames.is_frame, [one, other, rows_of_frame]),
+        ("is_frame list", frames.is_frame, [one, other, list(rows_of_frame)]),
+        ("is_frame unlike", frames.is_frame, unlike + [rows_of_frame]),
+        ("judge_frame", frames.judge_frame, [one, other, paper]),
+        ("judge_frame list", frames.judge_frame, [one, other, [list(part) for part in paper]]),
+        ("judge_frame unlike", frames.judge_frame, unlike + [paper]),
+        ("count_frames", frames.count_frames, [one, other]),
+        ("count_frames unlike", frames.count_frames, list(unlike)),
+        ("nests_of", frames.nests_of, [ground, ground.units(), (2, 0, 1)]),
+        ("nests_of list", frames.nests_of, [ground, list(ground.units()), [2, [0], 1]]),
+    ]
+
+
 def calls():
     made = [calls_of_words_and_grounds, calls_of_rows, calls_of_squares, calls_of_codes, calls_of_meets,
-            calls_of_codecounts, calls_of_nests_and_parts, calls_of_deeds_and_scripts]
+            calls_of_codecounts, calls_of_nests_and_parts, calls_of_deeds_and_scripts, calls_of_texts,
+            calls_of_orders, calls_of_differences_and_frames]
     return [call for part in made for call in part()]

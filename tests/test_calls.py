@@ -10,10 +10,12 @@ from codenests.parts import Part
 from tests.calls import calls
 
 PREDICATES = {"is_word", "is_number", "is_prime", "judge_relation", "judge_relation list", "is_in", "is_within",
-              "is_over", "is_deed", "is_deed list"}
+              "is_over", "is_deed", "is_deed list", "is_order", "is_order list", "is_frame", "is_frame list",
+              "judge_frame", "judge_frame list"}
 
 RETURN_LISTS = {"all_rows", "rows_of", "between_codes", "all_codes_between", "all_codes", "nest codes", "part codes",
-                "deeds_at", "all_deeds", "steps", "turned_back", "levels_of"}
+                "deeds_at", "all_deeds", "steps", "turned_back", "levels_of", "lexemes", "read_script",
+                "sorting_steps"}
 
 OBJECTS = (Ground, Nest, Part)
 
@@ -84,8 +86,9 @@ class EveryCall(unittest.TestCase):
 
     def test_tuples_count_as_lists(self):
         judged = {"is_word", "is_number", "is_prime", "Ground bad p", "Ground bad n"}
+        endings = (" list", " entry", " row", " bad code", " no code", " no level", " member")
         for name, function, arguments in calls():
-            if name not in judged and not name.endswith((" list", " entry", " row", " bad code", " no code", " member")):
+            if name not in judged and not name.endswith(endings):
                 self.assertEqual(outcome(function, swapped(arguments)), outcome(function, arguments), name)
 
     def test_what_is_returned_is_plain(self):

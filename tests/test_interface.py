@@ -20,6 +20,12 @@ FUNCTIONS = {
     "parts": {"part_of": 2, "is_over": 2},
     "deeds": {"is_deed": 2, "done": 2, "taken_back": 2, "deeds_at": 2, "all_deeds": 1},
     "scripts": {"walked": 2, "steps": 2, "turned_back": 2, "first_bad": 2, "levels_of": 1},
+    "lexemes": {"lexemes": 1},
+    "printer": {"ground_text": 1, "row_text": 1, "code_text": 1, "nest_text": 1, "part_text": 1, "script_text": 1},
+    "reader": {"read_ground": 1, "read_row": 2, "read_code": 2, "read_nest": 2, "read_part": 2, "read_script": 1},
+    "orders": {"is_order": 2, "inversions": 1, "turned_back": 1, "sorting_steps": 1, "stepped": 2},
+    "differences": {"table_of": 2, "order_of": 2, "table_from": 1, "order_from": 1},
+    "frames": {"frame_of": 2, "is_frame": 3, "judge_frame": 3, "count_frames": 2, "nests_of": 3},
 }
 
 CLASSES = {

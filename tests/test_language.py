@@ -17,7 +17,7 @@ FILES = sorted(FOLDER.glob("*.py"))
 NODES = set("""
     Module Expr Import ImportFrom alias FunctionDef arguments arg ClassDef Return Assign AugAssign For While If
     Raise Try ExceptHandler Break Continue Pass Constant Name Load Store Attribute Subscript Slice Call Tuple List
-    ListComp comprehension BinOp Add Sub Mult FloorDiv Mod UnaryOp USub Not BoolOp And Or IfExp Compare Eq NotEq Lt
+    Dict ListComp comprehension BinOp Add Sub Mult FloorDiv Mod UnaryOp USub Not BoolOp And Or IfExp Compare Eq NotEq Lt
     LtE Gt GtE Is IsNot In NotIn
 """.split())
 
@@ -100,7 +100,6 @@ class Files(unittest.TestCase):
             self.assertLessEqual(max(map(len, lines)), 120, file.name)
             for function in functions_of(ast.parse(text)):
                 self.assertLessEqual(function.end_lineno - function.lineno + 1, 40, function.name)
-
 
     def test_python_warns_of_nothing(self):
         with warnings.catch_warnings():
