@@ -63,7 +63,7 @@ def is_table(value):
             return False
         if not all([is_number(number) for number in row]):
             return False
-    return len(value) > 0
+    return True
 
 
 def first_growth(low, high):

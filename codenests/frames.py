@@ -56,9 +56,9 @@ def count_frames(f, g):
     return power(ground.p() - 1, n) * power(ground.p(), pairs)
 
 
-def nest_along(ground, rows):
-    """The nest of the codes that the first rows of a base span."""
-    return Nest(ground, [reduced(ground, rows[:i]) for i in range(1, ground.n())])
+def codes_along(ground, rows):
+    """The codes of a nest: those that the first rows of a base span."""
+    return [reduced(ground, rows[:i]) for i in range(1, ground.n())]
 
 
 def nests_of(ground, rows, order):
@@ -66,4 +66,5 @@ def nests_of(ground, rows, order):
     n = ground.n()
     if not are_rows(ground, rows) or rank(ground, rows) < n or not is_order(n, order):
         return None
-    return nest_along(ground, rows), nest_along(ground, [rows[place] for place in turned_back(order)])
+    turned = [rows[place] for place in turned_back(order)]
+    return Nest(ground, codes_along(ground, rows)), Nest(ground, codes_along(ground, turned))

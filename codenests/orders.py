@@ -21,9 +21,14 @@ def is_order(n, value):
     return order_fault(n, value) is None
 
 
+def falling_pairs(order):
+    """The list of the pairs of positions that have the greater number first."""
+    return [(a, b) for a, b in combinations(range(len(order)), 2) if order[a] > order[b]]
+
+
 def inversions(order):
-    """How many pairs of positions have the greater number first."""
-    return len([1 for a, b in combinations(range(len(order)), 2) if order[a] > order[b]])
+    """How many inversions an order has."""
+    return len(falling_pairs(order))
 
 
 def turned_back(order):

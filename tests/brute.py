@@ -164,3 +164,40 @@ def echelon(p, rows):
             row = times(p, factor, row)
             base = [plus(p, other, times(p, -other[first_entry(row)], row)) for other in base] + [row]
     return tuple(sorted(base, key=first_entry))
+
+
+def distances(p, n):
+    """The fewest deeds between any two nests, by going through all deeds.
+
+    A dict with a dict for each nest; the nests are told by their codes.
+    """
+    nests = all_nests(p, n)
+    beside = {one: [other for other in nests if sum(a != b for a, b in zip(one, other)) == 1] for one in nests}
+    found = {}
+    for start in nests:
+        away = {start: 0}
+        edge = [start]
+        while edge:
+            one = edge.pop(0)
+            for other in beside[one]:
+                if other not in away:
+                    away[other] = away[one] + 1
+                    edge.append(other)
+        found[start] = away
+    return found
+
+
+def exchanged(w, i):
+    return w[:i - 1] + (w[i], w[i - 1]) + w[i + 1:]
+
+
+def level_rows(w):
+    """All level rows of an order, ascending, by S5.5."""
+    if list(w) == sorted(w):
+        return [[]]
+    return [[i] + row for i in range(1, len(w)) if w[i - 1] > w[i] for row in level_rows(exchanged(w, i))]
+
+
+def turned(w):
+    """The set of the turned pairs by S6.1."""
+    return {(x, y) for x in w for y in w if x < y and w.index(y) < w.index(x)}

@@ -3,8 +3,8 @@
 A call is a name, the function and its arguments.
 """
 
-from codenests import codecounts, codes, deeds, differences, frames, grounds, lexemes, meets, nests, orders, parts
-from codenests import printer, reader, rows, scripts, squares, words
+from codenests import below, between, codecounts, codes, counting, deeds, differences, frames, grounds, levelrows
+from codenests import lexemes, meets, nests, orders, parts, prices, printer, reader, rows, scripts, squares, ways, words
 from codenests.grounds import Ground
 from codenests.nests import Nest
 from codenests.parts import Part
@@ -249,8 +249,102 @@ def calls_of_differences_and_frames():
     ]
 
 
+def calls_of_ways_and_between():
+    one, other = two_nests()
+    unlike = [one, nests.standard(Ground(2, 3))]
+    script = ways.any_way(one, other)
+    return [
+        ("near_code", ways.near_code, [one, other, 1]),
+        ("near_code no level", ways.near_code, [one, other, [1]]),
+        ("near_code unlike", ways.near_code, unlike + [1]),
+        ("deeds_apart", ways.deeds_apart, [one, other]),
+        ("deeds_apart unlike", ways.deeds_apart, list(unlike)),
+        ("way", ways.way, [one, other, scripts.levels_of(script)]),
+        ("way bad", ways.way, [one, other, scripts.levels_of(script) + [1]]),
+        ("way bad member", ways.way, [one, other, [[1], {}]]),
+        ("way unlike", ways.way, unlike + [[1]]),
+        ("any_way", ways.any_way, [one, other]),
+        ("any_way unlike", ways.any_way, list(unlike)),
+        ("judge_way", ways.judge_way, [one, other, list(script)]),
+        ("judge_way end", ways.judge_way, [one, other, script[:-1]]),
+        ("judge_way deeds", ways.judge_way, [one, one, script + scripts.turned_back(one, script)]),
+        ("judge_way bad member", ways.judge_way, [one, other, script + [[FIRST]]]),
+        ("judge_way form", ways.judge_way, [one, other, {"a": list(script)}]),
+        ("judge_way unlike", ways.judge_way, unlike + [list(script)]),
+        ("change", ways.change, [one, other, FIRST]),
+        ("change list", ways.change, [one, other, list(FIRST)]),
+        ("change unlike", ways.change, unlike + [FIRST]),
+        ("begins", ways.begins, [one, other, FIRST]),
+        ("begins list", ways.begins, [one, other, list(FIRST)]),
+        ("begins unlike", ways.begins, unlike + [FIRST]),
+        ("first_deeds", ways.first_deeds, [one, other]),
+        ("first_deeds unlike", ways.first_deeds, list(unlike)),
+        ("kept_levels", ways.kept_levels, [one, deeds.done(one, FIRST)]),
+        ("kept_levels unlike", ways.kept_levels, list(unlike)),
+        ("nearest", ways.nearest, [one, [other, one, one]]),
+        ("nearest unlike", ways.nearest, [one, list(unlike)]),
+        ("is_between", between.is_between, [one, one, other]),
+        ("is_between unlike", between.is_between, [one] + unlike),
+        ("all_between", between.all_between, [one, other]),
+        ("all_between unlike", between.all_between, list(unlike)),
+        ("count_between", between.count_between, [one, other]),
+        ("count_between unlike", between.count_between, list(unlike)),
+        ("nest_between", between.nest_between, [one, other, (0, 1, 2)]),
+        ("nest_between list", between.nest_between, [one, other, [0, [1], 2]]),
+        ("nest_between unlike", between.nest_between, unlike + [(0, 1, 2)]),
+    ]
+
+
+def calls_of_levelrows_below_and_prices():
+    return [
+        ("judge_levels", levelrows.judge_levels, [(2, 1, 0), [2, 1, 2]]),
+        ("judge_levels wrong", levelrows.judge_levels, [(2, 1, 0), [2, 1]]),
+        ("judge_levels bad member", levelrows.judge_levels, [(2, 1, 0), [2, [1], {}]]),
+        ("judge_levels form", levelrows.judge_levels, [(2, 1, 0), {"a": [2]}]),
+        ("first_row", levelrows.first_row, [(2, 1, 0)]),
+        ("count_rows", levelrows.count_rows, [(2, 1, 0)]),
+        ("levelrows row_at", levelrows.row_at, [(2, 1, 0), 1]),
+        ("levelrows row_at beyond", levelrows.row_at, [(2, 1, 0), 2]),
+        ("levelrows row_number", levelrows.row_number, [(2, 1, 0), [2, 1, 2]]),
+        ("levelrows row_number bad", levelrows.row_number, [(2, 1, 0), [2, 1, 1]]),
+        ("levelrows row_number bad member", levelrows.row_number, [(2, 1, 0), [2, 1, [2]]]),
+        ("is_plain", levelrows.is_plain, [(2, 1, 0)]),
+        ("falling_places", levelrows.falling_places, [(2, 1, 0)]),
+        ("falling_places none", levelrows.falling_places, [(2, 0, 1)]),
+        ("rising", below.rising, [3]),
+        ("falling", below.falling, [3]),
+        ("turned_pairs", below.turned_pairs, [(1, 2, 0)]),
+        ("is_below", below.is_below, [(0, 2, 1), (2, 0, 1)]),
+        ("orders_below", below.orders_below, [(1, 2, 0)]),
+        ("count_below", below.count_below, [(1, 2, 0)]),
+        ("price_of", prices.price_of, [[1, 2, 2], [3, 5]]),
+        ("least_price", prices.least_price, [(2, 1, 0), [3, 5]]),
+        ("greatest_price", prices.greatest_price, [(2, 1, 0), [3, 5]]),
+        ("cheapest", prices.cheapest, [(2, 1, 0), [5, 3]]),
+    ]
+
+
+def calls_of_counting():
+    ground = Ground(3, 3)
+    return [
+        ("step_count", counting.step_count, [ground, 4]),
+        ("step_product", counting.step_product, [ground, 4]),
+        ("count_nests", counting.count_nests, [ground]),
+        ("orders_with", counting.orders_with, [4, 3]),
+        ("orders_with none", counting.orders_with, [4, 7]),
+        ("count_at", counting.count_at, [ground, (1, 2, 0)]),
+        ("count_at list", counting.count_at, [ground, [1, 2, 0]]),
+        ("count_at entry", counting.count_at, [ground, (1, [2], 0)]),
+        ("count_away", counting.count_away, [ground, 2]),
+        ("count_away none", counting.count_away, [ground, 4]),
+        ("count_over", counting.count_over, [Part(ground, [HIGH])]),
+        ("mean_away", counting.mean_away, [ground]),
+    ]
+
+
 def calls():
     made = [calls_of_words_and_grounds, calls_of_rows, calls_of_squares, calls_of_codes, calls_of_meets,
             calls_of_codecounts, calls_of_nests_and_parts, calls_of_deeds_and_scripts, calls_of_texts,
-            calls_of_orders, calls_of_differences_and_frames]
+            calls_of_orders, calls_of_differences_and_frames, calls_of_ways_and_between,
+            calls_of_levelrows_below_and_prices, calls_of_counting]
     return [call for part in made for call in part()]

@@ -26,6 +26,15 @@ FUNCTIONS = {
     "orders": {"is_order": 2, "inversions": 1, "turned_back": 1, "sorting_steps": 1, "stepped": 2},
     "differences": {"table_of": 2, "order_of": 2, "table_from": 1, "order_from": 1},
     "frames": {"frame_of": 2, "is_frame": 3, "judge_frame": 3, "count_frames": 2, "nests_of": 3},
+    "ways": {"near_code": 3, "deeds_apart": 2, "way": 3, "any_way": 2, "judge_way": 3, "change": 3, "begins": 3,
+             "first_deeds": 2, "kept_levels": 2, "nearest": 2},
+    "between": {"is_between": 3, "all_between": 2, "count_between": 2, "nest_between": 3},
+    "levelrows": {"judge_levels": 2, "first_row": 1, "count_rows": 1, "row_at": 2, "row_number": 2, "is_plain": 1,
+                  "falling_places": 1},
+    "below": {"rising": 1, "falling": 1, "turned_pairs": 1, "is_below": 2, "orders_below": 1, "count_below": 1},
+    "prices": {"price_of": 2, "least_price": 2, "greatest_price": 2, "cheapest": 2},
+    "counting": {"step_count": 2, "step_product": 2, "count_nests": 1, "orders_with": 2, "count_at": 2,
+                 "count_away": 2, "count_over": 1, "mean_away": 1},
 }
 
 CLASSES = {

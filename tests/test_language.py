@@ -17,7 +17,7 @@ FILES = sorted(FOLDER.glob("*.py"))
 NODES = set("""
     Module Expr Import ImportFrom alias FunctionDef arguments arg ClassDef Return Assign AugAssign For While If
     Raise Try ExceptHandler Break Continue Pass Constant Name Load Store Attribute Subscript Slice Call Tuple List
-    Dict ListComp comprehension BinOp Add Sub Mult FloorDiv Mod UnaryOp USub Not BoolOp And Or IfExp Compare Eq NotEq Lt
+    Dict ListComp SetComp comprehension BinOp Add Sub Mult FloorDiv Mod BitAnd LShift UnaryOp USub Not BoolOp And Or IfExp Compare Eq NotEq Lt
     LtE Gt GtE Is IsNot In NotIn
 """.split())
 
@@ -26,7 +26,7 @@ BUILTINS = set("""
     ValueError LookupError
 """.split())
 
-METHODS = set("append extend insert pop reverse index count join get copy".split())
+METHODS = set("append extend insert pop reverse index count join get copy items values".split())
 
 DUNDERS = {"__init__", "__eq__"}
 
@@ -39,9 +39,11 @@ BARRED = set("""
 
 BARRED_STARTS = ("__", "_wall", "_pe_", "_dcw_", "_enum_", "_cm_", "_twin_re_", "_lay_", "_law_", "_stub_", "_sre")
 
-LIBRARY = {"itertools": {"combinations"}}
+LIBRARY = {"itertools": {"combinations"}, "math": {"gcd"}}
 
 ITERATED_AT_ONCE = {"zip", "enumerate", "reversed"}
+
+VIEWS = {"items", "keys", "values"}
 
 
 def tree_of(file):
@@ -229,6 +231,26 @@ class Code(unittest.TestCase):
         for file in FILES:
             tree = tree_of(file)
             heads = [node.iter for node in ast.walk(tree) if isinstance(node, (ast.For, ast.comprehension))]
+            taken = [node.args[0] for node in ast.walk(tree) if called(node) in {"list", "sum", "sorted"}]
             for node in ast.walk(tree):
                 if called(node) in ITERATED_AT_ONCE | LIBRARY["itertools"]:
                     self.assertTrue(node in heads, (file.name, node.lineno))
+                if isinstance(node, ast.Call) and isinstance(node.func, ast.Attribute) and node.func.attr in VIEWS:
+                    self.assertTrue(node in heads + taken, (file.name, node.lineno))
+
+    def test_sets_are_sorted_at_once(self):
+        for file in FILES:
+            tree = tree_of(file)
+            taken = [node.args[0] for node in ast.walk(tree) if called(node) == "sorted"]
+            for node in ast.walk(tree):
+                if isinstance(node, ast.SetComp):
+                    self.assertTrue(node in taken, (file.name, node.lineno))
+
+    def test_names_of_the_library_are_only_called(self):
+        for file in FILES:
+            tree = tree_of(file)
+            names = {one.name for node in imports_of(tree) if node.module in LIBRARY for one in node.names}
+            functions = [node.func for node in ast.walk(tree) if isinstance(node, ast.Call)]
+            for node in ast.walk(tree):
+                if isinstance(node, ast.Name) and node.id in names:
+                    self.assertTrue(node in functions, (file.name, node.lineno))
