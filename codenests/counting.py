@@ -2,8 +2,7 @@
 
 from math import gcd
 
-from codenests.errors import BadOrder
-from codenests.orders import falling_pairs, order_fault
+from codenests.orders import check_order, falling_pairs
 from codenests.powers import power
 
 
@@ -43,9 +42,7 @@ def orders_with(n, inversions):
 
 def count_at(ground, order):
     """How many nests have this order with a given one."""
-    path = order_fault(ground.n(), order)
-    if path is not None:
-        raise BadOrder(path)
+    check_order(ground.n(), order)
     return power(ground.p(), len(falling_pairs(order)))
 
 

@@ -56,8 +56,21 @@ def standard(ground):
     return Nest(ground, [units[:i] for i in range(1, ground.n())])
 
 
+def nest_through(ground, codes):
+    """The nest that has each code of a list once.
+
+    The codes go from that of the zero row up to that of all rows, and each is
+    the one before it or contains it and is greater by one rank.
+    """
+    taken = []
+    for code in codes:
+        if len(taken) < len(code) < ground.n():
+            taken.append(code)
+    return Nest(ground, taken)
+
+
 def shared_ground(nests):
-    """The ground of all nests of a list, which is not empty."""
+    """The ground of all members of a list, nests or partial nests; it is not empty."""
     ground = nests[0].ground()
     for nest in nests:
         if nest.ground() != ground:

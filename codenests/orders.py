@@ -2,7 +2,7 @@
 
 from itertools import combinations
 
-from codenests.errors import NoLevel
+from codenests.errors import BadOrder, NoLevel
 from codenests.words import is_number
 
 
@@ -19,6 +19,13 @@ def order_fault(n, value):
 def is_order(n, value):
     """Whether value, which may be anything, is an order of n."""
     return order_fault(n, value) is None
+
+
+def check_order(n, value):
+    """Raise BadOrder unless value, which may be anything, is an order of n."""
+    path = order_fault(n, value)
+    if path is not None:
+        raise BadOrder(path)
 
 
 def falling_pairs(order):

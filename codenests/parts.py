@@ -45,6 +45,13 @@ class Part:
         return isinstance(other, Part) and self._ground == other._ground and self._codes == other._codes
 
 
+def rungs(part):
+    """The codes between which the steps lead: those of the part and both ends."""
+    ground = part.ground()
+    top = [ground.units()] if ground.n() > 0 else []
+    return [()] + part.codes() + top
+
+
 def part_of(nest, levels):
     """The partial nest of the codes of a nest with some levels."""
     return Part(nest.ground(), [nest.code(level) for level in levels])

@@ -8,6 +8,7 @@ from codenests import lexemes, meets, nests, orders, parts, prices, printer, rea
 from codenests.grounds import Ground
 from codenests.nests import Nest
 from codenests.parts import Part
+from tests import calls_of_maps
 
 LIST = [(1, 2, 0), (2, 1, 1), (0, 0, 0), (1, 2, 0), (0, 1, 1)]
 LOW = ((1, 0, 2),)
@@ -346,5 +347,7 @@ def calls():
     made = [calls_of_words_and_grounds, calls_of_rows, calls_of_squares, calls_of_codes, calls_of_meets,
             calls_of_codecounts, calls_of_nests_and_parts, calls_of_deeds_and_scripts, calls_of_texts,
             calls_of_orders, calls_of_differences_and_frames, calls_of_ways_and_between,
-            calls_of_levelrows_below_and_prices, calls_of_counting]
+            calls_of_levelrows_below_and_prices, calls_of_counting, calls_of_maps.calls_of_numbering,
+            calls_of_maps.calls_of_maps, calls_of_maps.calls_of_leading, calls_of_maps.calls_of_gates_and_tables,
+            calls_of_maps.calls_of_sharing]
     return [call for part in made for call in part()]

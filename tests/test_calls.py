@@ -11,12 +11,16 @@ from tests.calls import calls
 
 PREDICATES = {"is_word", "is_number", "is_prime", "judge_relation", "judge_relation list", "is_in", "is_within",
               "is_over", "is_deed", "is_deed list", "is_order", "is_order list", "is_frame", "is_frame list",
-              "judge_frame", "judge_frame list", "begins", "is_between", "is_plain", "is_below"}
+              "judge_frame", "judge_frame list", "begins", "is_between", "is_plain", "is_below", "is_map", "is_map list",
+              "leads", "leads list", "judge_leading", "judge_leading list", "judge_part_frame",
+              "judge_part_frame bad member", "judge_share", "judge_share fresh", "judge_share list"}
 
 RETURN_LISTS = {"all_rows", "rows_of", "between_codes", "all_codes_between", "all_codes", "nest codes", "part codes",
                 "deeds_at", "all_deeds", "steps", "turned_back", "levels_of", "lexemes", "read_script",
                 "sorting_steps", "way", "any_way", "first_deeds", "kept_levels", "all_between",
-                "first_row", "levelrows row_at", "turned_pairs", "orders_below", "cheapest"}
+                "first_row", "levelrows row_at", "turned_pairs", "orders_below", "cheapest", "normal_rows", "digits",
+                "nests_from", "nests_from keywords", "all_maps", "all_kept", "all_over", "part_frame", "all_tables",
+                "all_tables none"}
 
 OBJECTS = (Ground, Nest, Part)
 

@@ -1,4 +1,4 @@
-"""The names of the interface: where they are defined, and with how many arguments."""
+"""The names of the interface: where they are defined, and which arguments they take."""
 
 import importlib
 import inspect
@@ -35,7 +35,19 @@ FUNCTIONS = {
     "prices": {"price_of": 2, "least_price": 2, "greatest_price": 2, "cheapest": 2},
     "counting": {"step_count": 2, "step_product": 2, "count_nests": 1, "orders_with": 2, "count_at": 2,
                  "count_away": 2, "count_over": 1, "mean_away": 1},
+    "numbering": {"normal_order": 1, "normal_rows": 1, "digits": 1, "nest_of": 3, "nest_off": 3, "off": 2,
+                  "nest_at": 2, "number_of": 1, "next_nest": 1, "nests_from": 1, "drawn": 2},
+    "maps": {"is_map": 2, "check_map": 2, "unit_map": 1, "led_row": 3, "led_code": 3, "then": 3, "turned_back": 2,
+             "count_maps": 1, "all_maps": 1},
+    "leading": {"led": 2, "led_part": 2, "leads": 5, "map_between": 4, "nest_map": 2, "leading_paper": 4,
+                "judge_leading": 5, "count_leading": 4, "maps_kept": 2, "count_keeping": 1, "all_kept": 2},
+    "gates": {"gate": 2, "inversions_within": 2, "count_over_order": 3, "all_over": 1},
+    "tables": {"part_table": 2, "part_frame": 2, "judge_part_frame": 3, "map_of_parts": 4, "count_table": 2,
+               "part_with": 2, "all_tables": 2},
+    "sharing": {"fresh": 2, "share": 1, "judge_share": 2},
 }
+
+KEYWORDS = {"nests_from": {"number": 0, "many": 10}}
 
 CLASSES = {
     "grounds": {"Ground": {"__init__": 2, "p": 0, "n": 0, "zero": 0, "units": 0, "inverse_of": 1, "__eq__": 1}},
@@ -53,10 +65,12 @@ def module_of(name):
 
 
 def takes(function):
-    """How many arguments a function takes by position, if it takes no others."""
-    kinds = [one.kind for one in inspect.signature(function).parameters.values()]
-    assert all(kind == inspect.Parameter.POSITIONAL_OR_KEYWORD for kind in kinds)
-    return len(kinds)
+    """How many arguments a function takes by position, and by keyword its defaults."""
+    found = inspect.signature(function).parameters.values()
+    positional = [one for one in found if one.kind == inspect.Parameter.POSITIONAL_OR_KEYWORD]
+    keywords = {one.name: one.default for one in found if one.kind == inspect.Parameter.KEYWORD_ONLY}
+    assert len(positional) + len(keywords) == len(found)
+    return len(positional), keywords
 
 
 class Interface(unittest.TestCase):
@@ -66,7 +80,7 @@ class Interface(unittest.TestCase):
                 function = getattr(module_of(file), name)
                 self.assertTrue(inspect.isfunction(function), name)
                 self.assertEqual(function.__module__, "codenests." + file, name)
-                self.assertEqual(takes(function), many, name)
+                self.assertEqual(takes(function), (many, KEYWORDS.get(name, {})), name)
 
     def test_classes(self):
         for file, classes in CLASSES.items():
@@ -75,7 +89,7 @@ class Interface(unittest.TestCase):
                 self.assertEqual(found.__module__, "codenests." + file, name)
                 for method, many in methods.items():
                     self.assertIn(method, vars(found), name)
-                    self.assertEqual(takes(vars(found)[method]), many + 1, method)
+                    self.assertEqual(takes(vars(found)[method]), (many + 1, {}), method)
 
     def test_errors(self):
         for name, many in ERRORS.items():
@@ -84,4 +98,4 @@ class Interface(unittest.TestCase):
             if many == 0:
                 found()
             elif many == 1:
-                self.assertEqual(takes(vars(found)["__init__"]), 2, name)
+                self.assertEqual(takes(vars(found)["__init__"]), (2, {}), name)

@@ -26,7 +26,7 @@ BUILTINS = set("""
     ValueError LookupError
 """.split())
 
-METHODS = set("append extend insert pop reverse index count join get copy items values".split())
+METHODS = set("append extend insert pop reverse index count join get setdefault copy items values".split())
 
 DUNDERS = {"__init__", "__eq__"}
 
