@@ -31,6 +31,12 @@ def part_text(part):
     return block_text("part", [code_text(code) for code in part.codes()])
 
 
+def deed_text(deed):
+    """How a deed is written in the text of a script."""
+    level, code = deed
+    return str(level) + " " + code_text(code)
+
+
 def script_text(script):
     """The text of a script, or of any list of pairs as read_script returns it."""
-    return block_text("script", [str(level) + " " + code_text(code) for level, code in script])
+    return block_text("script", [deed_text(deed) for deed in script])

@@ -40,12 +40,20 @@ class Cursor:
             raise BadText(self.here())
         self._at += 1
 
-    def take_number(self):
-        """Go on behind the next lexeme, which must be a number; return it."""
-        if self._at == len(self._found) or self._found[self._at][0] != "number":
+    def take_sort(self, sort):
+        """Go on behind the next lexeme, which must be of this sort; return it."""
+        if self._at == len(self._found) or self._found[self._at][0] != sort:
             raise BadText(self.here())
         self._at += 1
-        return int(self._found[self._at - 1][1])
+        return self._found[self._at - 1][1]
+
+    def take_number(self):
+        """Go on behind the next lexeme, which must be a number; return it."""
+        return int(self.take_sort("number"))
+
+    def take_word(self):
+        """Go on behind the next lexeme, which must be a word; return it."""
+        return self.take_sort("word")
 
     def finish(self):
         """Make sure that nothing is left."""
@@ -86,9 +94,8 @@ def deed_from(cursor):
     return level, code_from(cursor)
 
 
-def block_from(cursor, word, item_from):
-    """The word that comes next, and the list of what its braces hold."""
-    cursor.take(word)
+def items_from(cursor, item_from):
+    """The list of what the braces hold that come next."""
     cursor.take("{")
     items = []
     while not cursor.sees("}"):
@@ -96,6 +103,12 @@ def block_from(cursor, word, item_from):
         cursor.take(";")
     cursor.take("}")
     return items
+
+
+def block_from(cursor, word, item_from):
+    """The list of what the braces hold behind the word that comes next."""
+    cursor.take(word)
+    return items_from(cursor, item_from)
 
 
 def read_ground(text):

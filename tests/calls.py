@@ -8,7 +8,7 @@ from codenests import lexemes, meets, nests, orders, parts, prices, printer, rea
 from codenests.grounds import Ground
 from codenests.nests import Nest
 from codenests.parts import Part
-from tests import calls_of_maps
+from tests import calls_of_houses, calls_of_maps
 
 LIST = [(1, 2, 0), (2, 1, 1), (0, 0, 0), (1, 2, 0), (0, 1, 1)]
 LOW = ((1, 0, 2),)
@@ -349,5 +349,7 @@ def calls():
             calls_of_orders, calls_of_differences_and_frames, calls_of_ways_and_between,
             calls_of_levelrows_below_and_prices, calls_of_counting, calls_of_maps.calls_of_numbering,
             calls_of_maps.calls_of_maps, calls_of_maps.calls_of_leading, calls_of_maps.calls_of_gates_and_tables,
-            calls_of_maps.calls_of_sharing]
+            calls_of_maps.calls_of_sharing, calls_of_houses.calls_of_opposites_and_sides,
+            calls_of_houses.calls_of_goals_and_acts, calls_of_houses.calls_of_houses,
+            calls_of_houses.calls_of_consoles]
     return [call for part in made for call in part()]

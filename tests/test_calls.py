@@ -3,8 +3,10 @@
 import copy
 import unittest
 
+from codenests.console import Console
 from codenests.errors import NameMissing, NestError
 from codenests.grounds import Ground
+from codenests.house import House
 from codenests.nests import Nest
 from codenests.parts import Part
 from tests.calls import calls
@@ -13,16 +15,17 @@ PREDICATES = {"is_word", "is_number", "is_prime", "judge_relation", "judge_relat
               "is_over", "is_deed", "is_deed list", "is_order", "is_order list", "is_frame", "is_frame list",
               "judge_frame", "judge_frame list", "begins", "is_between", "is_plain", "is_below", "is_map", "is_map list",
               "leads", "leads list", "judge_leading", "judge_leading list", "judge_part_frame",
-              "judge_part_frame bad member", "judge_share", "judge_share fresh", "judge_share list"}
+              "judge_part_frame bad member", "judge_share", "judge_share fresh", "judge_share list", "are_opposite"}
 
 RETURN_LISTS = {"all_rows", "rows_of", "between_codes", "all_codes_between", "all_codes", "nest codes", "part codes",
                 "deeds_at", "all_deeds", "steps", "turned_back", "levels_of", "lexemes", "read_script",
                 "sorting_steps", "way", "any_way", "first_deeds", "kept_levels", "all_between",
                 "first_row", "levelrows row_at", "turned_pairs", "orders_below", "cheapest", "normal_rows", "digits",
                 "nests_from", "nests_from keywords", "all_maps", "all_kept", "all_over", "part_frame", "all_tables",
-                "all_tables none"}
+                "all_tables none", "lines_of", "left_after", "barred_levels", "house nails", "house done",
+                "house undone", "house way", "house next_deeds", "house marks"}
 
-OBJECTS = (Ground, Nest, Part)
+OBJECTS = (Ground, Nest, Part, House, Console)
 
 
 def outcome(function, arguments):
@@ -60,9 +63,20 @@ def swapped(value):
 class EveryCall(unittest.TestCase):
     def test_nothing_that_is_passed_is_changed(self):
         for name, function, arguments in calls():
-            before = copy.deepcopy(arguments)
+            # The object whose method is called stays the same, too.
+            passed = [arguments, getattr(function, "__self__", None)]
+            before = copy.deepcopy(passed)
             outcome(function, arguments)
-            self.assertEqual(arguments, before, name)
+            self.assertEqual(passed, before, name)
+
+    def test_what_is_returned_keeps_no_list_that_was_passed(self):
+        for name, function, arguments in calls():
+            kind, value = outcome(function, arguments)
+            if kind == "returned":
+                wanted = copy.deepcopy(value)
+                for one in lists_in(arguments):
+                    one.clear()
+                self.assertEqual(value, wanted, name)
 
     def test_a_repeated_call_answers_alike(self):
         for (name, function, arguments), (_, again, others) in zip(calls(), calls()):

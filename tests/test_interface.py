@@ -45,6 +45,12 @@ FUNCTIONS = {
     "tables": {"part_table": 2, "part_frame": 2, "judge_part_frame": 3, "map_of_parts": 4, "count_table": 2,
                "part_with": 2, "all_tables": 2},
     "sharing": {"fresh": 2, "share": 1, "judge_share": 2},
+    "opposites": {"are_opposite": 2, "count_opposite": 1, "lines_of": 2, "opposite_to": 1},
+    "sides": {"turned_code": 2, "turned": 1, "turned_order": 1, "coordinates": 3, "short_rest": 3, "within": 2,
+              "beyond": 2},
+    "goals": {"left_after": 3, "waste": 3, "barred_levels": 3, "nest_beside": 2},
+    "acts": {"act_word": 2, "after": 2},
+    "house": {"beside": 2, "parted": 2},
 }
 
 KEYWORDS = {"nests_from": {"number": 0, "many": 10}}
@@ -53,6 +59,10 @@ CLASSES = {
     "grounds": {"Ground": {"__init__": 2, "p": 0, "n": 0, "zero": 0, "units": 0, "inverse_of": 1, "__eq__": 1}},
     "nests": {"Nest": {"__init__": 2, "ground": 0, "codes": 0, "code": 1, "__eq__": 1}},
     "parts": {"Part": {"__init__": 2, "ground": 0, "codes": 0, "ranks": 0, "blocks": 0, "__eq__": 1}},
+    "house": {"House": {"__init__": 1, "nest": 0, "goal": 0, "nails": 0, "stand": 0, "do": 1, "undo": 0, "redo": 0,
+                        "done": 0, "undone": 0, "tried": 1, "would": 1, "paid": 0, "left": 0, "waste": 0, "way": 0,
+                        "next_deeds": 0, "keep": 1, "marks": 0, "marked": 1, "deeds_to": 1, "twin": 0, "__eq__": 1}},
+    "console": {"Console": {"__init__": 1, "house": 0, "say": 1}},
 }
 
 ERRORS = {"NestError": None, "UnlikeGrounds": 0, "TooGreat": 0, "NothingDone": 0, "BadGround": 1, "BadRow": 1,

@@ -84,6 +84,13 @@ def is_plain(node):
     return True
 
 
+def is_table_of(node, functions):
+    """Whether a node is a dict that has functions of this file, by words."""
+    if not isinstance(node, ast.Dict) or not all(isinstance(value, ast.Name) for value in node.values):
+        return False
+    return all(map(is_plain, node.keys)) and {value.id for value in node.values} <= set(functions)
+
+
 class Files(unittest.TestCase):
     def test_the_folder(self):
         names = {one.name for one in FOLDER.iterdir()} - {"__pycache__"}
@@ -123,7 +130,8 @@ class Modules(unittest.TestCase):
                 imports_are_over = not isinstance(node, ast.ImportFrom)
                 if isinstance(node, ast.Assign):
                     self.assertTrue(len(node.targets) == 1 and isinstance(node.targets[0], ast.Name), where)
-                    self.assertTrue(is_plain(node.value), where)
+                    above = [one.name for one in functions_of(tree) if one.lineno < node.lineno]
+                    self.assertTrue(is_plain(node.value) or is_table_of(node.value, above), where)
 
     def test_imports_name_the_file_that_defines(self):
         defined = {"codenests." + file.stem: defined_in(tree_of(file)) for file in FILES}
