@@ -14,6 +14,7 @@ PUT = ("put",) + FIRST
 def calls_of_opposites_and_sides():
     ground, one, other = Ground(3, 3), one_nest(), other_nest()
     across = sides.turned(nests.standard(ground))
+    lines = [Nest(Ground(2, 2), [(row,)]) for row in [(1, 0), (0, 1), (1, 1)]]
     return [
         ("are_opposite", opposites.are_opposite, [one, other]),
         ("are_opposite unlike", opposites.are_opposite, [one, unlike_nest()]),
@@ -22,7 +23,7 @@ def calls_of_opposites_and_sides():
         ("lines_of none", opposites.lines_of, [one, one]),
         ("lines_of unlike", opposites.lines_of, [one, unlike_nest()]),
         ("opposite_to", opposites.opposite_to, [[one, other, third_nest(), across]]),
-        ("opposite_to none", opposites.opposite_to, [[Nest(Ground(2, 2), [(row,)]) for row in [(1, 0), (0, 1), (1, 1)]]]),
+        ("opposite_to none", opposites.opposite_to, [list(lines)]),
         ("opposite_to unlike", opposites.opposite_to, [[one, unlike_nest()]]),
         ("turned_code", sides.turned_code, [ground, HIGH]),
         ("turned", sides.turned, [one]),
@@ -136,7 +137,8 @@ def calls_of_houses():
 
 def calls_of_consoles():
     house = made_house()
-    lines = ["show", "left", "paid", "order", "way", "nails", "at 2", "to start", "undo", "redo", "keep a", "turn", "goal"]
+    lines = ["show", "left", "paid", "order", "way", "nails", "at 2", "to start", "undo", "redo", "keep a", "turn",
+             "goal"]
     return [
         ("Console", Console, [house]),
         ("console house", Console(house).house, []),

@@ -167,7 +167,7 @@ class Form(Acts):
         right = ("put", 1, ((0, 1, 0),))
         wrong = no_integers() + NEGATIVE + [0, 1, GREAT, F, deep(right), "put", "turn", list(right), {"put": 1}]
         wrong += [right[1:], right[:2], right[:1], right + (0,), (right,), (list("put"),) + right[1:]]
-        wrong += [("put", right[1:]), ("Put",) + right[1:], ("put ",) + right[1:], ("",), ("act",), ("undo",), ("redo",)]
+        wrong += [("put", right[1:]), ("Put",) + right[1:], ("put ",) + right[1:], ("",), ("act",), ("undo",)]
         wrong += [("nail",), ("nail", 1, 1), ("free",), ("free", 1, 1), ("goal",), ("goal", None, None), ("lead",)]
         wrong += [("lead", Ground(2, 3).units(), 1), ("turn", 1), ("turn", None), ("turn", ()), ["turn"], ("turns",)]
         wrong += [("keep", "a"), ("none",), ("goal", *F.codes())]

@@ -10,7 +10,7 @@ from tests.test_acts import OTHER, plain_act
 from tests.test_differences import F, G, H, opposite, some_nests
 from tests.test_house import state
 
-# Lines with what they say behind the word: lexemes that fit, for grounds with three columns.
+# Two lines that lead from the standard nest with p = 2 and n = 3, and back to it.
 PUT = "put 1 [(0, 1, 0)]"
 BACK = "put 1 [(1, 0, 0)]"
 

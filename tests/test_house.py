@@ -386,7 +386,8 @@ class Marks(Houses):
         house.keep("abc")
         house.keep("a" * 12)
         values = [value for value in no_integers() if value != "abc"]
-        for value in values + NEGATIVE + [0, 1, GREAT, F, "", "A", "1a", "a b", "a" * 13, "a-", "abcD", ["abc"], ("abc",)]:
+        values += NEGATIVE + [0, 1, GREAT, F, "", "A", "1a", "a b", "a" * 13, "a-", "abcD", ["abc"], ("abc",)]
+        for value in values:
             for function in [house.keep, house.marked, house.deeds_to]:
                 self.assertIs(self.raises(house, UnknownName, function, value).name, value)
         self.assertEqual(house.marks(), ["abc", "a" * 12])

@@ -81,9 +81,9 @@ def some_lists(p, n, longest, many, seed):
 def lists_of_all_kinds():
     for p, n, longest in [(2, 0, 4), (5, 0, 2), (3, 1, 4), (2, 2, 4), (3, 2, 3)]:
         for many in range(1, longest + 1):
-            for nests in itertools.product(nests_of_ground(p, n), repeat=many):
-                yield list(nests)
-    yield from [list(nests) for nests in itertools.product(nests_of_ground(2, 3), repeat=3)][::61]
+            found = list(itertools.product(nests_of_ground(p, n), repeat=many))
+            yield from [list(nests) for nests in found[::len(found) // 30 + 1]]
+    yield from [list(nests) for nests in itertools.product(nests_of_ground(2, 3), repeat=3)][::211]
     for p, n, longest, many in [(2, 3, 4, 20), (3, 3, 4, 10), (2, 4, 4, 5)]:
         yield from some_lists(p, n, longest, many, 10 * p + n)
 
