@@ -212,6 +212,14 @@ class Over(unittest.TestCase):
                 all_over(part)
         self.assertEqual(len(all_over(Part(Ground(11, 3), []))), 1596)
 
+    def test_the_nearest_numbers_to_two_thousand(self):
+        part = part_of(standard(Ground(11, 6)), [2, 4])
+        self.assertEqual(len(all_over(part)), 1728)
+        part = part_of(standard(Ground(3, 6)), [4, 5])
+        self.assertEqual(count_over(part), 2080)
+        with self.assertRaises(TooGreat):
+            all_over(part)
+
     def test_a_new_list(self):
         found = all_over(K)
         found.clear()

@@ -11,6 +11,7 @@ from codenests.leading import (all_kept, count_keeping, count_leading, judge_lea
                                led_part, map_between, maps_kept, nest_map)
 from codenests.maps import led_code, led_row, then, turned_back, unit_map
 from codenests.nests import Nest, standard
+from codenests.numbering import nest_off
 from codenests.parts import Part, is_over, part_of
 from codenests.ways import deeds_apart
 from tests import brute
@@ -309,6 +310,14 @@ class HowMany(unittest.TestCase):
         nest, other = standard(Ground(13, 3)), opposite(Ground(13, 3))
         self.assertEqual(maps_kept(nest, other), 1728)
         self.assertEqual(len(all_kept(nest, other)), 1728)
+        # The nearest numbers to 2,000 that there are.
+        nest = standard(Ground(13, 2))
+        self.assertEqual(len(all_kept(nest, nest)), 1872)
+        nest = standard(Ground(2, 6))
+        other = nest_off(nest, (4, 0, 1, 2, 3, 5), [0, 0, 0, 0])
+        self.assertEqual(maps_kept(nest, other), 2048)
+        with self.assertRaises(TooGreat):
+            all_kept(nest, other)
         nest, other = standard(Ground(2, 5)), opposite(Ground(2, 5))
         self.assertEqual(all_kept(nest, other), [unit_map(Ground(2, 5))])
         self.assertEqual(len(all_kept(nest, nest)), 1024)
